@@ -33,15 +33,20 @@ func modelHull(s []impl.Point) ([]impl.Point, bool) {
 	if !modelGood(s) {
 		return nil, false
 	}
+	return sideBySide(s), true
+}
+
+// sideBySide has the hull of points in order, however many they are.
+func sideBySide(s []impl.Point) []impl.Point {
 	if len(s) < 2 {
-		return slices.Clone(s), true
+		return slices.Clone(s)
 	}
 	round := []impl.Point{s[0]}
 	for {
 		at := round[len(round)-1]
 		k := slices.IndexFunc(s, func(p impl.Point) bool { return isSideOf(s, at, p) })
 		if s[k] == s[0] {
-			return round, true
+			return round
 		}
 		round = append(round, s[k])
 	}
