@@ -27,6 +27,7 @@ const (
 	goodNumber = iota
 	wideNumber
 	factorNumber
+	countNumber
 )
 
 // Each kind goes as far below 0 as above. A difference of two wide numbers
@@ -35,6 +36,7 @@ var bounds = [...]int{
 	goodNumber:   MaxXY,
 	wideNumber:   MaxWide,
 	factorNumber: 4 * MaxWide,
+	countNumber:  MaxCount,
 }
 
 // GoodPoint says whether both numbers of p are in -MaxXY..MaxXY.
@@ -48,7 +50,7 @@ func SideOf(a Point, b Point, c Point) (int, bool) {
 	if !GoodPoint(a) || !GoodPoint(b) || !GoodPoint(c) {
 		return 0, false
 	}
-	return signOfNumber((b.X-a.X)*(c.Y-a.Y) - (b.Y-a.Y)*(c.X-a.X)), true
+	return signOfNumber(triangle{a, b, c}.twiceArea()), true
 }
 
 // DotSign tells 1 where b is farther than a in the direction d, -1 where it
