@@ -28,6 +28,7 @@ const (
 	wideNumber
 	factorNumber
 	countNumber
+	smallNumber
 )
 
 // Each kind goes as far below 0 as above. A difference of two wide numbers
@@ -37,6 +38,7 @@ var bounds = [...]int{
 	wideNumber:   MaxWide,
 	factorNumber: 4 * MaxWide,
 	countNumber:  MaxCount,
+	smallNumber:  MaxSmall,
 }
 
 // GoodPoint says whether both numbers of p are in -MaxXY..MaxXY.
